@@ -1,0 +1,1 @@
+"""Lodge: a house where every key has a room of its own."""
