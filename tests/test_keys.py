@@ -4,11 +4,8 @@ import unittest
 
 from lodge.errors import NoKey, NoKeys, Twice
 from lodge.keys import look_keys, mark, mixed, stamp
-from tests.helper import AskCase
+from tests.helper import GREATEST, P, SIGNS, AskCase, mixed_by_the_document, stamp_by_the_document
 
-P = 2305843009213693951
-GREATEST = 999999999999999999
-SIGNS = "abcdefghijklmnopqrstuvwxyz0123456789-_ "
 # Every other sign that a text that is handed in may have.
 OTHER_SIGNS = [chr(code) for code in range(32, 127) if chr(code) not in SIGNS] + ["\t", "\n"]
 NO_NUMBERS = [-1, -2, -GREATEST, -10 ** 39, GREATEST + 1, GREATEST + 2, P, 2 * P, 10 ** 19, 10 ** 39]
@@ -18,20 +15,6 @@ NO_TEXTS = [
 ]
 NO_KEYS = NO_NUMBERS + NO_TEXTS
 KEYS = [0, 1, 2, 39, 40, GREATEST, "", "a", "z", "0", "1", "9", "-", "_", " ", "a b", "zz", " " * 11, "a" * 11]
-
-
-def stamp_by_the_document(key):
-    if isinstance(key, int):
-        return 2 * key
-    powers = [(SIGNS.index(sign) + 1) * 40 ** place for place, sign in enumerate(reversed(key))]
-    return 2 * sum(powers) + 1
-
-
-def mixed_by_the_document(number, salt, size):
-    a = 1 + (1103515245 * salt + 12345) % (P - 1)
-    b = (69069 * salt * salt + 7 * salt) % P
-    first = (a * number + b) % P
-    return (first + first // 2147483648) % size
 
 
 class StampTest(AskCase):

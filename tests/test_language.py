@@ -36,6 +36,11 @@ WORDS_NOWHERE = re.compile(
     r"\b(type|typing|typing_extensions|enum|Enum|IntEnum|StrEnum|Flag|IntFlag|Generic|Protocol|ABC|ABCMeta|namedtuple|"
     r"NamedTuple|TypedDict|TYPE_CHECKING|abstractmethod)\b|dataclass|overload|contextmanager"
 )
+NAMES_NOT_USED = set(
+    "attrgetter breakpoint builtins compile copyright credits delattr dir eval exec exit gc getattr globals hasattr "
+    "help id importlib license locals methodcaller os quit setattr super type vars sys register mro elements open "
+    "input version_info with_traceback add_note".split()
+)
 DOUBLE_METHODS = {"__init__", "__eq__", "__repr__", "__str__", "__len__"}
 
 
@@ -78,6 +83,10 @@ def methods_of(node):
 def own_methods():
     classes = [node for path in FILES for node in nodes_of(parsed(path), ast.ClassDef)]
     return {name for node in classes for name in methods_of(node)}
+
+
+def own_classes():
+    return {node.name for path in FILES for node in nodes_of(parsed(path), ast.ClassDef)}
 
 
 def for_each_file(test):
@@ -227,6 +236,33 @@ class LanguageTest(unittest.TestCase):
             self.assertTrue(re.fullmatch(r"[A-Za-z][A-Za-z0-9_]*", name), name)
         for node in nodes_of(tree, ast.Name):
             self.assertIn(node.id, known | OWN_NAMES)
+
+    @for_each_file
+    def test_names_that_are_not_used_l17(self, path, tree):
+        names = {node.id for node in nodes_of(tree, ast.Name)} | set(bound_at_top(tree))
+        names |= {node.arg for node in nodes_of(tree, ast.arg)} | {node.attr for node in nodes_of(tree, ast.Attribute)}
+        self.assertEqual(names & NAMES_NOT_USED, set())
+
+    @for_each_file
+    def test_classes_are_called_or_bases_l18_l19(self, path, tree):
+        allowed = [base for node in nodes_of(tree, ast.ClassDef) for base in node.bases]
+        allowed.extend(node.func for node in nodes_of(tree, ast.Call))
+        allowed.extend(argument for node in nodes_of(tree, ast.Call) for argument in node.args[1:])
+        allowed.extend(node.type for node in nodes_of(tree, ast.ExceptHandler))
+        allowed.extend(node.value for node in nodes_of(tree, ast.Attribute) if node.attr == "__init__")
+        for node in nodes_of(tree, ast.Name):
+            if node.id in own_classes():
+                self.assertIn(node, allowed)
+        for node in nodes_of(tree, ast.Raise):
+            self.assertIn(node.exc.func.id, own_classes())
+
+    @for_each_file
+    def test_init_gives_back_nothing_l28(self, path, tree):
+        for function in nodes_of(tree, ast.FunctionDef):
+            if function.name.startswith("__"):
+                self.assertIn(function.name, DOUBLE_METHODS)
+            if function.name == "__init__":
+                self.assertEqual(nodes_of(function, ast.Return), [])
 
     @for_each_file
     def test_methods_l25(self, path, tree):

@@ -6,7 +6,7 @@ import unittest
 
 from lodge.errors import NoEdges
 from lodge.peel import look_edges, peeled
-from tests.helper import AskCase
+from tests.helper import AskCase, PeelCase, never_taken
 
 NO_EDGES_OF_SIZE_6 = [
     (), (0, 1, 2, 3, 4), (0, 1, 2, 3, 4, 5), (0, 0), (1, 2, 1), (1, 2, 3, 1), (5, 5, 4), (4, 5, 5), (2, 2, 2, 2),
@@ -45,21 +45,6 @@ KNOWN = [
     ([(0, 1, 2, 3), (0, 1), (2,)], 4, []),
     ([(2, 10 ** 39 - 1), (2, 10 ** 38)], 10 ** 39, []),
 ]
-
-
-def never_taken(edges):
-    """By the words of point 11, with no care for how long it takes."""
-    left = list(range(len(edges)))
-    going = True
-    while going:
-        going = False
-        for number in left:
-            others = [edges[other] for other in left if other != number]
-            if any(all(place not in other for other in others) for place in edges[number]):
-                left.remove(number)
-                going = True
-                break
-    return left
 
 
 def ring(many, start=0):
@@ -115,41 +100,13 @@ class LookEdgesTest(AskCase):
         self.refused(NoEdges, 0, look_edges, [(False,)], 6)
 
 
-class PeeledTest(AskCase):
-    def walked(self, edges, size):
-        """The answer, its order walked edge by edge, its left looked at; left is told."""
-        answer = self.asked(peeled, edges, size)
-        self.assertIs(answer.__class__, tuple)
-        self.assertEqual([part.__class__ for part in answer], [list, list])
-        order, left = answer
-        self.walk_order(edges, order)
-        self.look_left(edges, left)
-        numbers = [number for number, place in order] + left
-        self.assertEqual(sorted(numbers), list(range(len(edges))), edges)
-        return left
-
-    def walk_order(self, edges, order):
-        there = list(range(len(edges)))
-        for step in order:
-            self.assertIs(step.__class__, tuple)
-            number, place = step
-            self.assertEqual((number.__class__, place.__class__), (int, int))
-            self.assertIn(number, there)
-            self.assertIn(place, edges[number])
-            self.assertEqual([each for each in there if place in edges[each]], [number])
-            there.remove(number)
-
-    def look_left(self, edges, left):
-        self.assertEqual(left, sorted(left))
-        self.assertTrue(all(number.__class__ is int for number in left))
-        for number in left:
-            for place in edges[number]:
-                at_place = [other for other in left if place in edges[other]]
-                self.assertGreaterEqual(len(at_place), 2, (edges, number, place))
+class PeeledTest(PeelCase):
+    def walked_left(self, edges, size):
+        return self.walked(edges, self.asked(peeled, edges, size))
 
     def test_known_ones(self):
         for edges, size, left in KNOWN:
-            self.assertEqual(self.walked(edges, size), left, edges)
+            self.assertEqual(self.walked_left(edges, size), left, edges)
 
     def test_no_edges(self):
         for size in (0, 1, 100, 10 ** 39):
@@ -165,14 +122,14 @@ class PeeledTest(AskCase):
     def test_whatever_the_order_of_the_edges_left_is_the_same(self):
         edges = [(0, 1), (1, 2), (2, 0), (2, 3), (3, 4), (5,), (4, 6)]
         for order in itertools.permutations(range(len(edges))):
-            left = self.walked([edges[number] for number in order], 7)
+            left = self.walked_left([edges[number] for number in order], 7)
             self.assertEqual(sorted(order[number] for number in left), [0, 1, 2])
 
     def test_all_small_ones(self):
         kinds = [(0,), (1,), (0, 1), (1, 2), (2, 0), (0, 1, 2), (2, 3), (0, 1, 2, 3)]
         for many in range(5):
             for edges in itertools.product(kinds, repeat=many):
-                self.assertEqual(self.walked(list(edges), 4), never_taken(edges), edges)
+                self.assertEqual(self.walked_left(list(edges), 4), never_taken(edges), edges)
 
     def test_many_others(self):
         chosen = random.Random(11)
@@ -183,18 +140,18 @@ class PeeledTest(AskCase):
                 tuple(chosen.sample(range(size), chosen.choice(lengths)))
                 for number in range(chosen.randint(0, size + size // 2))
             ]
-            self.assertEqual(self.walked(edges, size), never_taken(edges), edges)
+            self.assertEqual(self.walked_left(edges, size), never_taken(edges), edges)
 
     def test_rings_and_chains_of_many_lengths(self):
         for many in range(2, 30):
-            self.assertEqual(self.walked(ring(many), many), list(range(many)))
-            self.assertEqual(self.walked(chain(many), many + 1), [])
+            self.assertEqual(self.walked_left(ring(many), many), list(range(many)))
+            self.assertEqual(self.walked_left(chain(many), many + 1), [])
             both = chain(many) + ring(many, many + 1)
-            self.assertEqual(self.walked(both, 2 * many + 1), list(range(many, 2 * many)))
+            self.assertEqual(self.walked_left(both, 2 * many + 1), list(range(many, 2 * many)))
 
     def test_two_thousand_edges(self):
-        self.assertEqual(self.walked(chain(2000), 2001), [])
-        self.assertEqual(self.walked(list(reversed(chain(2000))), 2001), [])
+        self.assertEqual(self.walked_left(chain(2000), 2001), [])
+        self.assertEqual(self.walked_left(list(reversed(chain(2000))), 2001), [])
         order, left = self.asked(peeled, ring(2000), 2000)
         self.assertEqual((order, left), ([], list(range(2000))))
         order, left = self.asked(peeled, [(0, 1, 2, 3)] * 2000, 4)
@@ -205,7 +162,7 @@ class PeeledTest(AskCase):
             ([(0, 1, 2, 3, 4)], 5), ([(0, 1, 2, 3, 4, 5), (0, 1), (5,)], 6), ([(), (0,), ()], 1), ([(7, 8), (8, 9)], 4),
             ([(-1, 0), (0, 1)], 2), ([(0, 0), (0, 1, 1)], 2), ([(0,)], 0),
         ]:
-            self.assertEqual(self.walked(edges, size), never_taken(edges), edges)
+            self.assertEqual(self.walked_left(edges, size), never_taken(edges), edges)
 
     def test_told_lists_are_the_askers_own(self):
         for edges, size, left in KNOWN:
