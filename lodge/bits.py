@@ -3,6 +3,11 @@
 from lodge.errors import NoBits
 
 
+def is_below(number, limit):
+    # Python has True and False as ints; neither stands for a number here.
+    return not isinstance(number, bool) and 0 <= number < limit
+
+
 def two_to(width):
     power = 1
     for turn in range(width):
@@ -22,8 +27,7 @@ def number_written(number, width):
 def written(numbers, width):
     limit = two_to(width)
     for place, number in enumerate(numbers):
-        # Python has True and False as ints; neither stands for a number here.
-        if isinstance(number, bool) or number < 0 or number >= limit:
+        if not is_below(number, limit):
             raise NoBits(place)
     return "".join([number_written(number, width) for number in numbers])
 

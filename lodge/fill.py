@@ -1,6 +1,6 @@
 """Filling a table, so that the numbers at each edge's places have the wanted sum."""
 
-from lodge.peel import is_place
+from lodge.bits import is_below
 
 
 def remainder(number, modulus):
@@ -10,7 +10,7 @@ def remainder(number, modulus):
 
 def summed(table, places, modulus):
     # A list counts places below 0 from its end; outside of a table there is nothing to add.
-    found = [table[place] for place in places if is_place(place, len(table))]
+    found = [table[place] for place in places if is_below(place, len(table))]
     return remainder(sum(found), modulus)
 
 
@@ -20,6 +20,6 @@ def filled(edges, size, order, wanted, modulus):
     # that place still has 0, and no sum that is right already changes with it.
     for number, place in reversed(order):
         lacking = wanted[number] - summed(table, edges[number], modulus)
-        if is_place(place, size):
+        if is_below(place, size):
             table[place] = remainder(lacking, modulus)
     return table

@@ -1,19 +1,15 @@
 """Peeling: taking edges, one by one, at places where each stands alone."""
 
+from lodge.bits import is_below
 from lodge.errors import NoEdges
 
 MOST_PLACES = 4
 
 
-def is_place(place, size):
-    # Python has True and False as ints; neither stands for a number here.
-    return not isinstance(place, bool) and 0 <= place < size
-
-
 def is_edge(edge, size):
     if len(edge) == 0 or len(edge) > MOST_PLACES:
         return False
-    return len(set(edge)) == len(edge) and all([is_place(place, size) for place in edge])
+    return len(set(edge)) == len(edge) and all([is_below(place, size) for place in edge])
 
 
 def look_edges(edges, size):

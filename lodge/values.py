@@ -1,6 +1,6 @@
 """Tables that keep values beside keys, or marks by which strangers are told."""
 
-from lodge.bits import two_to
+from lodge.bits import is_below, two_to
 from lodge.errors import NoRange, NoValue
 from lodge.keys import GREATEST_NUMBER, look_each_key, look_keys, mark
 from lodge.tables import table_for
@@ -11,8 +11,7 @@ MOST_LOOKED_AT = 2000
 
 def look_values(values, many, limit):
     for place, value in enumerate(values):
-        # Python has True and False as ints; neither stands for a number here.
-        if place >= many or isinstance(value, bool) or value < 0 or value >= limit:
+        if place >= many or not is_below(value, limit):
             raise NoValue(place)
     if len(values) < many:
         raise NoValue(len(values))
@@ -24,6 +23,7 @@ class Kept:
         self.how_many = look_keys(keys)
         look_values(values, len(keys), limit)
         salt = first_try(keys, kind, most)
+        self.width = width
         self.own_table = table_for(keys, salt, kind, limit, values)
 
     def many(self):

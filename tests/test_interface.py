@@ -15,6 +15,7 @@ FUNCTIONS = {
     },
     "fill": {"summed": "table places modulus", "filled": "edges size order wanted modulus"},
     "values": {"mistaken": "marked keys low high"},
+    "retold": {"house_told": "house", "made_again": "what"},
 }
 # Class by class: its base, the arguments with which it is made (None: it isn't), and its methods with theirs.
 CLASSES = {
@@ -32,6 +33,15 @@ CLASSES = {
     ),
     ("values", "Marked"): (
         "object", "keys width kind most", {"many": "", "salt": "", "table": "", "places": "key", "knows": "key"},
+    ),
+    ("buckets", "Buckets"): (
+        "House", "keys many_buckets most",
+        {"many": "", "room": "key", "rooms": "keys", "numbers": "", "bucket": "key"},
+    ),
+    ("halves", "Halved"): ("House", "keys leaf most", {"many": "", "room": "key", "rooms": "keys", "numbers": ""}),
+    ("living", "Living"): (
+        "object", "part salt modulus",
+        {"value": "key", "kept": "", "table": "", "places": "key", "ring": "key", "put": "key value", "drop": "key"},
     ),
 }
 

@@ -5,6 +5,7 @@ Not all of a rule can be seen in the text of a file; what can is looked at here.
 
 import ast
 import builtins
+import functools
 import pathlib
 import re
 import unittest
@@ -31,6 +32,11 @@ OWN_METHODS = set(
     "items join keys ljust lower lstrip partition pop remove replace reverse rfind rjust rpartition rsplit rstrip "
     "setdefault split splitlines startswith strip update upper values zfill bit_length".split()
 )
+CHANGES = set("append clear extend insert pop remove reverse setdefault update".split())
+KEYWORDS = {
+    "sorted": {"key", "reverse"}, "min": {"key", "default"}, "max": {"key", "default"}, "sum": {"start"},
+    "enumerate": {"start"}, "zip": {"strict"},
+}
 WALKED_AT_ONCE = {"zip", "enumerate", "reversed", "range"}
 WORDS_NOWHERE = re.compile(
     r"\b(type|typing|typing_extensions|enum|Enum|IntEnum|StrEnum|Flag|IntFlag|Generic|Protocol|ABC|ABCMeta|namedtuple|"
@@ -44,6 +50,7 @@ NAMES_NOT_USED = set(
 DOUBLE_METHODS = {"__init__", "__eq__", "__repr__", "__str__", "__len__"}
 
 
+@functools.cache
 def parsed(path):
     return ast.parse(path.read_text(encoding="utf-8"))
 
@@ -80,13 +87,32 @@ def methods_of(node):
     return [each.name for each in node.body if isinstance(each, ast.FunctionDef)]
 
 
+@functools.cache
 def own_methods():
     classes = [node for path in FILES for node in nodes_of(parsed(path), ast.ClassDef)]
     return {name for node in classes for name in methods_of(node)}
 
 
+@functools.cache
 def own_classes():
     return {node.name for path in FILES for node in nodes_of(parsed(path), ast.ClassDef)}
+
+
+def walked_by(loop):
+    """The texts of all names and values within what a loop walks."""
+    return {ast.unparse(node) for node in nodes_of(loop.iter, (ast.Name, ast.Attribute, ast.Subscript))}
+
+
+def changed_in(loop):
+    """The texts of what is changed in a loop's body, by a method or by an index."""
+    changed = set()
+    for statement in loop.body:
+        for node in nodes_of(statement, (ast.Attribute, ast.Subscript)):
+            if isinstance(node, ast.Attribute) and node.attr in CHANGES:
+                changed.add(ast.unparse(node.value))
+            if isinstance(node, ast.Subscript) and isinstance(node.ctx, ast.Store):
+                changed.add(ast.unparse(node.value))
+    return changed
 
 
 def for_each_file(test):
@@ -283,6 +309,17 @@ class LanguageTest(unittest.TestCase):
         for node in nodes_of(tree, ast.Call):
             if isinstance(node.func, ast.Name) and node.func.id in WALKED_AT_ONCE | {"set"}:
                 self.assertIn(node, allowed)
+
+    @for_each_file
+    def test_what_a_loop_walks_is_not_changed_in_it_l23(self, path, tree):
+        for loop in nodes_of(tree, ast.For):
+            self.assertEqual(walked_by(loop) & changed_in(loop), set(), loop.lineno)
+
+    @for_each_file
+    def test_keywords_l22(self, path, tree):
+        for node in nodes_of(tree, ast.Call):
+            name = node.func.id if isinstance(node.func, ast.Name) else None
+            self.assertLessEqual({keyword.arg for keyword in node.keywords}, KEYWORDS.get(name, set()))
 
 
 if __name__ == "__main__":

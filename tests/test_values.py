@@ -7,26 +7,9 @@ from lodge.errors import NoKey, NoKeys, NoRange, NoTry, NoValue, Twice
 from lodge.houses import House
 from lodge.values import Kept, Marked, mistaken
 from tests.helper import (
-    GREATEST, KINDS, LATE_PAIRS, WRONG_LISTS, AskCase, first_salt, key_lists, mixed_by_the_document,
-    part_by_the_document, places_by_the_document, some_numbers, some_texts, stamp_by_the_document, strangers_to,
+    GREATEST, KINDS, LATE_PAIRS, WRONG_LISTS, AskCase, first_salt, key_lists, mark_by_the_document,
+    part_by_the_document, places_by_the_document, some_numbers, some_texts, some_values, strangers_to, sum_at_places,
 )
-
-
-def some_values(many, width, seed):
-    chosen = random.Random(seed)
-    return [chosen.randrange(2 ** width) for place in range(many)]
-
-
-def mark_by_the_document(key, width):
-    return mixed_by_the_document(stamp_by_the_document(key), 3, 2 ** width)
-
-
-def sum_at_places(table, key, width, kind):
-    """By the document, of what the table tells of itself."""
-    numbers = table.table()
-    part = part_by_the_document(table.many(), kind)
-    places = places_by_the_document(key, table.salt(), kind, part)
-    return sum(numbers[place] for place in places) % 2 ** width
 
 
 def all_told(table, asked):
